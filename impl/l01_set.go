@@ -59,10 +59,14 @@ func (s bitSet) principals() iter.Seq[int64] {
 	}
 }
 
+func numberText(number int64) string {
+	return strconv.FormatInt(number, 10)
+}
+
 func (s bitSet) text() string {
 	var words []string
 	for p := range s.principals() {
-		words = append(words, strconv.FormatInt(p, 10))
+		words = append(words, numberText(p))
 	}
 	return "{" + strings.Join(words, ",") + "}"
 }

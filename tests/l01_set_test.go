@@ -277,7 +277,7 @@ func TestSameArgumentsSameAnswers(t *testing.T) { // P1: nothing is kept from ca
 func TestAnswersShareNoMemory(t *testing.T) { // P1
 	for set := range allSets {
 		one, two := impl.ListOf(int64(set)).List, impl.ListOf(int64(set)).List
-		spoil(one)
+		spoil(one, -7)
 		if want := listOfSet(set); !slices.Equal(two, want) || !slices.Equal(impl.ListOf(int64(set)).List, want) {
 			t.Fatalf("lists of %d share memory", set)
 		}
@@ -285,9 +285,9 @@ func TestAnswersShareNoMemory(t *testing.T) { // P1
 }
 
 // spoil overwrites a list up to its capacity: what is behind its end may be shared as well.
-func spoil(list []int64) {
+func spoil[T any](list []T, with T) {
 	list = list[:cap(list)]
 	for i := range list {
-		list[i] = -7
+		list[i] = with
 	}
 }
