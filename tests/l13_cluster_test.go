@@ -1469,7 +1469,7 @@ func TestWhatIsAskedOfAllIsSignedWhereNobodyIsBad(t *testing.T) { // P14
 
 func TestWhatGoesWithAllThatWasSaidIsSigned(t *testing.T) { // P14
 	signed := map[int64]int{}
-	for seed := range int64(30) {
+	for seed := range int64(16) {
 		d := dice(seed + 1500)
 		f := seed%2 + 1
 		w := newWorld(withF(house(), f))
